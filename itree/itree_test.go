@@ -156,18 +156,36 @@ func TestExample(t *testing.T) {
 }
 
 func TestLookInOrder(t *testing.T) {
-	k := made(t, 50, sp(1, 5, 5), sp(2, 0, 1), sp(3, 8, 9), sp(4, 4, 6))
-	ids, next := k.Root().Look(-100, 100)
-	if !slices.Equal(ids, []int{1, 4}) || len(next) != 2 {
-		t.Fatal(ids, next)
+	// Ids rise as the intervals do: what lies on the lower side has lower ones.
+	k := made(t, 50)
+	for i := range 40 {
+		id := 1 + i*17%40
+		k.Insert(sp(id, 10*id, 10*id+3))
 	}
-	low, _ := next[0].Look(-100, 100)
-	high, _ := next[1].Look(-100, 100)
-	if !slices.Equal(low, []int{2}) || !slices.Equal(high, []int{3}) {
-		t.Error("the lower side first", low, high)
+	both := 0
+	var walk func(n *itree.Node)
+	walk = func(n *itree.Node) {
+		_, next := n.Look(-far, far)
+		if len(next) == 2 {
+			both++
+			if slices.Max(seek(next[0], -far, far)) > slices.Min(seek(next[1], -far, far)) {
+				t.Error("the lower side first")
+			}
+		}
+		for _, kid := range next {
+			walk(kid)
+		}
+	}
+	walk(k.Root())
+	if both == 0 {
+		t.Error("no node with two sides")
+	}
+	ids := k.Stab(100)
+	if !slices.Equal(ids, []int{10}) {
+		t.Fatal(ids)
 	}
 	ids[0] = 99
-	if ids, _ := k.Root().Look(-100, 100); !slices.Equal(ids, []int{1, 4}) {
+	if ids := k.Stab(100); !slices.Equal(ids, []int{10}) {
 		t.Error("shared")
 	}
 }
