@@ -34,13 +34,22 @@ func (n *Node) Cells() (from, to int) {
 	return n.from, n.to
 }
 
-// built is a tree of these cells, at which nothing lies.
-func built(from, to int) *Node {
-	n := &Node{from: from, to: to}
-	if half := n.half(); from < to {
-		n.kids = [2]*Node{built(from, half), built(half+1, to)}
+// built is a tree of the cells from 0 to last, at which nothing lies.
+func built(last int) *Node {
+	// All nodes in one piece: there are one less than two for each cell.
+	nodes := make([]Node, 2*last+1)
+	taken := 0
+	var grow func(from, to int) *Node
+	grow = func(from, to int) *Node {
+		n := &nodes[taken]
+		taken++
+		n.from, n.to = from, to
+		if half := n.half(); from < to {
+			n.kids = [2]*Node{grow(from, half), grow(half+1, to)}
+		}
+		return n
 	}
-	return n
+	return grow(0, last)
 }
 
 // half is the last cell of the first half of the node's cells.
