@@ -65,6 +65,9 @@ func TestFeed(t *testing.T) {
 		}
 	}
 	made(t, 65535)
+	if l, e := made(t, 1).Feed([]byte("\x00\x01a\x00\x02")); !equal(l, list("a")) || e != api.ErrLong {
+		t.Error("frames of one byte", l, e)
+	}
 	s := made(t, 3)
 	if l, e := s.Feed([]byte("\x00\x02ab\x00\x00\x00\x03cde\x00")); !equal(l, list("ab", "", "cde")) || e != api.OK || s.Waits() != 1 || s.Broken() {
 		t.Error(l, e, s.Waits())
@@ -187,6 +190,9 @@ func TestSplit(t *testing.T) {
 	}
 	if b[2] != 'a' {
 		t.Error("shared")
+	}
+	if l, n, e := frame.Split(make([]byte, api.MaxFrame), 1); len(l) != api.MaxFrame/2 || n != api.MaxFrame || e != api.OK {
+		t.Error("just as many bytes", len(l), n, e)
 	}
 }
 

@@ -116,6 +116,9 @@ func TestNew(t *testing.T) {
 			t.Error(most, e)
 		}
 	}
+	if one := made(t, 1, sp(1, 0, 0)); one.Insert(sp(2, 0, 0)) != api.ErrFull || one.Len() != 1 {
+		t.Error("room for one")
+	}
 	k := made(t, api.MaxPool)
 	check(t, k, nil, &dice{1})
 	if k.Root() != nil || k.Delete(sp(1, 0, 0)) != api.ErrNone || k.Has(sp(1, 0, 0)) {
@@ -221,6 +224,53 @@ func TestAgainstAModel(t *testing.T) {
 			if step%5 == 0 {
 				check(t, k, has, d)
 			}
+		}
+	}
+}
+
+func TestMiddlesThatStabNothing(t *testing.T) {
+	// Intervals that lie apart, and go one by one: nodes are left with two kids, or one, or none.
+	for seed := range uint32(30) {
+		d := &dice{seed}
+		n := 2 + d.roll(40)
+		k, has := made(t, 100), map[api.Span]bool{}
+		var l []api.Span
+		for i := range n {
+			l = append(l, sp(i+1, 10*i, 10*i+d.roll(4)))
+		}
+		for len(l) > 0 {
+			i := d.roll(len(l))
+			if d.roll(9) > 0 && k.Insert(l[i]) == api.OK {
+				has[l[i]] = true
+			} else if has[l[i]] {
+				k.Delete(l[i])
+				delete(has, l[i])
+				if d.roll(4) == 0 {
+					l = slices.Delete(l, i, i+1)
+				}
+			}
+			if k.Len() == n || len(has) < 6 || d.roll(8) == 0 {
+				check(t, k, has, d)
+			}
+		}
+	}
+	for n := 2; n < 40; n++ {
+		k, has := made(t, 100), map[api.Span]bool{}
+		for i := range n {
+			s := sp(i+1, 10*i, 10*i+3)
+			k.Insert(s)
+			has[s] = true
+		}
+		// From the middle outwards.
+		for i := range n {
+			at := n/2 + (i+1)/2*(1-i%2*2)
+			at = max(0, min(n-1, at))
+			s := sp(at+1, 10*at, 10*at+3)
+			if (k.Delete(s) == api.OK) != has[s] {
+				t.Fatal("Delete", s)
+			}
+			delete(has, s)
+			check(t, k, has, &dice{uint32(n)})
 		}
 	}
 }

@@ -121,6 +121,9 @@ func TestNew(t *testing.T) {
 			t.Error(most, e)
 		}
 	}
+	if one := made(t, 1, pt(1, 0, 0)); one.Insert(pt(2, 0, 0)) != api.ErrFull || one.Len() != 1 {
+		t.Error("room for one")
+	}
 	k := made(t, api.MaxPool)
 	if k.Len() != 0 || k.Root() != nil || k.Depth() != 0 || k.Built() != 0 || len(k.Report(box.All())) != 0 || k.Count(box.All()) != 0 || !k.Check() {
 		t.Error("empty")

@@ -154,6 +154,9 @@ func TestNew(t *testing.T) {
 			t.Error(most, e)
 		}
 	}
+	if one := made(t, 1, pt(1, 0, 0)); one.Insert(pt(2, 0, 0)) != api.ErrFull || one.Len() != 1 {
+		t.Error("room for one")
+	}
 	s := made(t, api.MaxPool)
 	check(t, s, &model{}, &dice{1})
 	if s.Delete(pt(1, 0, 0)) != api.ErrNone || s.Has(pt(1, 0, 0)) {

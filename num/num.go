@@ -31,7 +31,7 @@ func Mul(a, b int) (int, bool) {
 		return 0, true
 	}
 	// The least number divided by -1 wraps round to itself, so the check by division misses it.
-	if (a == -1 && b == math.MinInt) || (b == -1 && a == math.MinInt) {
+	if a == math.MinInt && b == -1 {
 		return 0, false
 	}
 	product := a * b

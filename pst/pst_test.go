@@ -166,6 +166,9 @@ func TestNew(t *testing.T) {
 			t.Error(most, e)
 		}
 	}
+	if one := made(t, 1, pt(1, 0, 0)); one.Insert(pt(2, 0, 0)) != api.ErrFull || one.Len() != 1 {
+		t.Error("room for one")
+	}
 	k := made(t, api.MaxPool)
 	check(t, k, nil, &dice{1})
 	if k.Root() != nil || k.Delete(pt(1, 0, 0)) != api.ErrNone || k.Has(pt(1, 0, 0)) {

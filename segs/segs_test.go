@@ -169,6 +169,9 @@ func TestNew(t *testing.T) {
 			t.Error(most, e)
 		}
 	}
+	if one := made(t, 1, sp(1, 0, 0)); one.Insert(sp(2, 0, 0)) != api.ErrFull || one.Len() != 1 {
+		t.Error("room for one")
+	}
 	k := made(t, api.MaxPool)
 	check(t, k, &model{}, &dice{1})
 	if from, to := k.Root().Cells(); from != 0 || to != 0 || k.Delete(sp(1, 0, 0)) != api.ErrNone || k.Has(sp(1, 0, 0)) {
@@ -255,6 +258,30 @@ func TestAllGo(t *testing.T) {
 	}
 	if k.Ends() > 4 {
 		t.Error("Ends", k.Ends())
+	}
+}
+
+func TestWhenNumbersAreTooMany(t *testing.T) {
+	for many := 5; many < 40; many++ {
+		k, m := made(t, 50), &model{has: map[api.Span]bool{}}
+		var l []api.Span
+		for i := 0; i < many; i += 2 {
+			s := sp(i+1, 10*i, 10*i+10)
+			if i == many-1 {
+				s.Hi = s.Lo
+			}
+			l = append(l, s)
+			k.Insert(s)
+			m.insert(s)
+		}
+		if k.Ends() != many {
+			t.Fatal("Ends", k.Ends(), many)
+		}
+		for _, s := range l {
+			k.Delete(s)
+			m.remove(s)
+			check(t, k, m, &dice{7})
+		}
 	}
 }
 

@@ -329,8 +329,14 @@ func TestAReadThatFails(t *testing.T) {
 	quiet(t, s, 1, 1)
 	quiet(t, s, 0, 1)
 	phase(t, s, 0, api.Reads)
+	if _, waits := s.Ahead(0); waits {
+		t.Error("who reads does not wait")
+	}
 	quiet(t, s, 0, 1)
 	phase(t, s, 0, api.Waits)
+	if n, waits := s.Ahead(0); n != 1 || !waits {
+		t.Error("it wants its turn", n, waits)
+	}
 	quiet(t, s, 1, 3)
 	told(t, s, 1, reply.Changed(api.OK))
 	quiet(t, s, 0, 1)
@@ -395,6 +401,19 @@ func TestAChangeThatWasTurnedBackInBetween(t *testing.T) {
 	// The version is what it was, but what the cursor saw may not be.
 	quiet(t, s, 0, 1)
 	phase(t, s, 0, api.Waits)
+	if n, waits := s.Ahead(0); n != 0 || !waits {
+		t.Error("it wants its turn", n, waits)
+	}
+	quiet(t, s, 0, 2)
+	phase(t, s, 0, api.Holds)
+	for {
+		if r, ok, _ := s.Step(0); ok {
+			if !slices.Equal(r.Answer.IDs, []int{5, 6, 7, 8}) {
+				t.Error("nothing is left of it", r)
+			}
+			break
+		}
+	}
 }
 
 func TestAbort(t *testing.T) {
