@@ -86,10 +86,10 @@ func look(t *testing.T, n *pst.Node, kids []*pst.Node, parts [][]api.Point) {
 		if hit != sees(w, p) {
 			t.Fatal("hit", w, p)
 		}
-		if p.Y < w.Y || w.X1 > w.X2 {
-			if len(next) != 0 {
-				t.Fatal("none is to be looked at", w, p)
-			}
+		if p.Y < w.Y && len(next) != 0 {
+			t.Fatal("none is to be looked at", w, p)
+		}
+		if p.Y < w.Y {
 			continue
 		}
 		for _, k := range next {
